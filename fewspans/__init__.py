@@ -1,0 +1,1 @@
+"""Smallest sets of intervals that generate given intervals."""

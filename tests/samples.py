@@ -1,0 +1,40 @@
+"""Values that several test files use."""
+
+from itertools import combinations_with_replacement
+
+LAST = 10 ** 12
+
+
+def intervals_up_to(last):
+    return tuple(combinations_with_replacement(range(last + 1), 2))
+
+
+def nested(levels, make):
+    value = 0
+    for level in range(levels):
+        value = make(value)
+    return value
+
+
+# None of these is an interval, a tuple of intervals, or equal in kind to one.
+NO_TUPLES = (
+    None, True, False, 0, 1, -1, LAST, 10 ** 29, -(10 ** 29),
+    "", "0-1", "tuple", "(0, 1)", "x" * 2000, "a\nb",
+    [], [0, 1], [(0, 1)], [(0, 1), (0, 3)], [[0, 1]], ["a"], [None] * 1000,
+    {}, {"low": 0, "high": 1}, {"0": (0, 1)}, {"a": {"b": [()]}},
+    nested(20, lambda value: [value]), nested(20, lambda value: {"a": value}),
+)
+
+WRONG_INTERVALS = NO_TUPLES + (
+    (), (0,), (0, 1, 2), (0, 1, 1), ((0, 1),), ((0, 1), (0, 3)), ((0, 1), 1), (0, (0, 1)),
+    (1, 0), (LAST, LAST - 1), (LAST, 0), (-1, 0), (-1, -1), (-2, -1), (0, -1),
+    (0, LAST + 1), (LAST + 1, LAST + 1), (LAST, LAST + 1), (LAST + 1, LAST + 2), (0, 10 ** 29), (-(10 ** 29), 0),
+    (0, True), (False, 1), (False, True), (True, True), (False, False), (0, False), (True, 5), (True, 1),
+    (None, None), (0, None), (None, 0), ("0", "1"), (0, "1"), ("0", 1), ("a", "b"),
+    ([0], [1]), ([], 1), (0, []), ({}, {}), (0, {}), (0, [1]), ([0, 1],), (0, ()), ((), ()),
+    nested(20, lambda value: (value,)), nested(20, lambda value: (0, value)), (0,) * 1000,
+)
+
+RIGHT_INTERVALS = (
+    (0, 0), (0, 1), (2, 2), (2, 3), (0, 10), (17, 4000), (0, LAST), (1, LAST - 1), (LAST - 1, LAST), (LAST, LAST),
+)
