@@ -48,6 +48,10 @@ def is_pieces(value):
     return ascending_error(value, MAX_PIECES) is None
 
 
+def has_position(interval, position):
+    return interval[0] <= position <= interval[1]
+
+
 def contains(outer, inner):
     """Return whether the interval inner lies inside the interval outer."""
     return outer[0] <= inner[0] and inner[1] <= outer[1]

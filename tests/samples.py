@@ -1,12 +1,37 @@
 """Values that several test files use."""
 
-from itertools import combinations_with_replacement
+from itertools import combinations, combinations_with_replacement
 
 LAST = 10 ** 12
 
 
 def intervals_up_to(last):
     return tuple(combinations_with_replacement(range(last + 1), 2))
+
+
+def subsets(intervals, most):
+    """Make all ascending tuples of at most so many of the intervals."""
+    return [rows for many in range(most + 1) for rows in combinations(sorted(intervals), many)]
+
+
+def counted_blocks(intervals):
+    """Find the blocks position by position."""
+    blocks = []
+    before = set()
+    for position in range(max((high for low, high in intervals), default=-1) + 1):
+        inside = {at for at, (low, high) in enumerate(intervals) if low <= position <= high}
+        if inside and inside == before:
+            blocks[-1] = (blocks[-1][0], position)
+        elif inside:
+            blocks.append((position, position))
+        before = inside
+    return tuple(blocks)
+
+
+def scattered(many, step, length, last):
+    """Make many intervals in no order, among them nested, overlapping and touching ones."""
+    lows = [k * step * step % last for k in range(many)]
+    return tuple((low, min(last, low + k * length % 17)) for k, low in enumerate(lows))
 
 
 def nested(levels, make):
@@ -38,3 +63,10 @@ WRONG_INTERVALS = NO_TUPLES + (
 RIGHT_INTERVALS = (
     (0, 0), (0, 1), (2, 2), (2, 3), (0, 10), (17, 4000), (0, LAST), (1, LAST - 1), (LAST - 1, LAST), (LAST, LAST),
 )
+
+# Ways to move an interval between 0 and 9 that keep what it has in common with others.
+MOVES = {
+    "small": lambda interval: interval,
+    "near the last position": lambda interval: (interval[0] + LAST - 9, interval[1] + LAST - 9),
+    "long": lambda interval: (interval[0] * 10 ** 11, interval[1] * 10 ** 11 + 10 ** 11 - 1),
+}

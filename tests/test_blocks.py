@@ -1,39 +1,14 @@
-import signal
 import unittest
 from itertools import chain, permutations, product
 
 from fewspans.blocks import block_index, compress, find_blocks
-from samples import LAST, intervals_up_to
-
-
-def counted_blocks(intervals):
-    """Find the blocks position by position."""
-    blocks = []
-    before = set()
-    for position in range(max((high for low, high in intervals), default=-1) + 1):
-        inside = {at for at, (low, high) in enumerate(intervals) if low <= position <= high}
-        if inside and inside == before:
-            blocks[-1] = (blocks[-1][0], position)
-        elif inside:
-            blocks.append((position, position))
-        before = inside
-    return tuple(blocks)
+from samples import LAST, MOVES, counted_blocks, intervals_up_to, scattered
+from timed import Timed
 
 
 def counted_index(blocks, position):
     found = [index for index, (low, high) in enumerate(blocks) if position in range(low, high + 1)]
     return found[0] if found else None
-
-
-def scattered(many, step, length, last):
-    """Make many intervals in no order, among them nested, overlapping and touching ones."""
-    lows = [k * step * step % last for k in range(many)]
-    return tuple((low, min(last, low + k * length % 17)) for k, low in enumerate(lows))
-
-
-def too_slow(number, frame):
-    # A failure would end only the present subtest; this ends the whole run.
-    raise KeyboardInterrupt("too slow")
 
 
 # Each row: the intervals, their blocks, what compress returns.
@@ -53,20 +28,8 @@ ROWS = {
     "separate with repeats": (((8, 9), (0, 1), (8, 9)), ((0, 1), (8, 9)), ((1, 1), (0, 0), (1, 1))),
 }
 
-MOVES = {
-    "small": lambda interval: interval,
-    "near the last position": lambda interval: (interval[0] + LAST - 9, interval[1] + LAST - 9),
-    "long": lambda interval: (interval[0] * 10 ** 11, interval[1] * 10 ** 11 + 10 ** 11 - 1),
-}
 
-
-class Blocks(unittest.TestCase):
-    def setUp(self):
-        # A program that goes through long intervals position by position must not run for days.
-        signal.signal(signal.SIGALRM, too_slow)
-        signal.alarm(60)
-        self.addCleanup(signal.alarm, 0)
-
+class Blocks(Timed):
     def check_against_count(self, intervals):
         blocks = counted_blocks(intervals)
         self.assertEqual(find_blocks(intervals), blocks)

@@ -1,0 +1,37 @@
+"""The functions of the document's interface that are there so far, with their arguments."""
+
+import inspect
+import unittest
+from importlib import import_module
+
+FUNCTIONS = {
+    "intervals": (
+        "is_interval(value)", "is_targets(value)", "is_pieces(value)", "targets_error(value)",
+        "contains(outer, inner)", "intersect(first, second)", "hull_of(first, second)",
+    ),
+    "blocks": ("find_blocks(intervals)", "block_index(intervals, position)", "compress(intervals)"),
+    "demands": (
+        "serves(piece, demand)", "conflict(first, second)", "joint_piece(demands)", "is_independent(value)",
+        "all_demands(targets)", "open_demands(targets, pieces)", "shadow_target(targets, demand)",
+    ),
+    "generating": (
+        "generates(pieces, target)", "first_gap(pieces, target)", "find_missing(targets, pieces)",
+        "cover_chain(pieces, target)", "removable_pieces(targets, pieces)", "prune_pieces(targets, pieces)",
+        "redundant_targets(targets)", "reduce_targets(targets)",
+    ),
+}
+
+
+class Interface(unittest.TestCase):
+    def test_functions(self):
+        for module_name, functions in FUNCTIONS.items():
+            module = import_module("fewspans." + module_name)
+            for written in functions:
+                with self.subTest(written, module=module_name):
+                    function = getattr(module, written.partition("(")[0])
+                    self.assertEqual(function.__module__, module.__name__)
+                    self.assertEqual(function.__name__ + str(inspect.signature(function)), written)
+
+
+if __name__ == "__main__":
+    unittest.main()
