@@ -1,12 +1,12 @@
 """Demands: a position of a target that some piece inside the target must contain."""
 
 from fewspans.blocks import find_blocks
-from fewspans.intervals import contains, has_position, is_interval, is_position
+from fewspans.intervals import contains, has_position, is_interval, is_position, is_tuple_of
 
 
 def is_demand(value):
     """Return whether any value is a tuple (position, target) of a position and an interval that contains it."""
-    if not isinstance(value, tuple) or len(value) != 2:
+    if not is_tuple_of(value, 2):
         return False
     position, target = value
     return is_position(position) and is_interval(target) and has_position(target, position)

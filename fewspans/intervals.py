@@ -12,9 +12,13 @@ def is_position(value):
     return is_number(value) and 0 <= value <= LAST_POSITION
 
 
+def is_tuple_of(value, length):
+    return isinstance(value, tuple) and len(value) == length
+
+
 def is_interval(value):
     """Return whether any value is a tuple (low, high) of positions with low <= high."""
-    if not isinstance(value, tuple) or len(value) != 2:
+    if not is_tuple_of(value, 2):
         return False
     low, high = value
     return is_position(low) and is_position(high) and low <= high
@@ -46,6 +50,14 @@ def is_targets(value):
 def is_pieces(value):
     """Return whether any value is pieces."""
     return ascending_error(value, MAX_PIECES) is None
+
+
+def is_ascending(value, is_item):
+    """Return whether any value is an ascending tuple, perhaps empty, of items that is_item accepts."""
+    # Values of other kinds may have no order, so all items are asked before two of them are compared.
+    if not isinstance(value, tuple) or not all([is_item(item) for item in value]):
+        return False
+    return all([before < item for before, item in zip(value, value[1:])])
 
 
 def has_position(interval, position):

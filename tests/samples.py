@@ -9,6 +9,11 @@ def intervals_up_to(last):
     return tuple(combinations_with_replacement(range(last + 1), 2))
 
 
+def points(many, first=0):
+    """Make as many intervals of one position each, one beside the other."""
+    return tuple((first + k, first + k) for k in range(many))
+
+
 def subsets(intervals, most):
     """Make all ascending tuples of at most so many of the intervals."""
     return [rows for many in range(most + 1) for rows in combinations(sorted(intervals), many)]
@@ -70,3 +75,30 @@ MOVES = {
     "near the last position": lambda interval: (interval[0] + LAST - 9, interval[1] + LAST - 9),
     "long": lambda interval: (interval[0] * 10 ** 11, interval[1] * 10 ** 11 + 10 ** 11 - 1),
 }
+
+
+def all_moved(move, intervals):
+    return tuple(map(move, intervals))
+
+
+def items_changed(value):
+    """Make tuples and a list of the same items: out of order, more, fewer."""
+    yield list(value)
+    yield value + value
+    yield value[::-1]
+    for at in range(len(value)):
+        yield value[:at] + value[at + 1:]
+        yield value[:at + 1] + value[at:]
+        yield value[:at] + value[at + 1:at + 2] + value[at:at + 1] + value[at + 2:]
+
+
+def parts_replaced(value, parts):
+    """Make values in which one part of the value, at any depth, is replaced by another part or in other ways."""
+    yield from parts
+    if isinstance(value, tuple):
+        yield from items_changed(value)
+        for at, item in enumerate(value):
+            for changed in parts_replaced(item, parts):
+                yield value[:at] + (changed,) + value[at + 1:]
+    elif isinstance(value, int):
+        yield from (value - 1, value + 1, value == 1, -value, str(value), [value], (value,))

@@ -4,6 +4,7 @@ from itertools import combinations, combinations_with_replacement, permutations,
 
 from fewspans.blocks import find_blocks
 from fewspans.demands import all_demands, conflict, is_independent, joint_piece, open_demands, serves, shadow_target
+from counted import between, jointly_served, served
 from samples import (
     LAST, MOVES, NO_TUPLES, RIGHT_INTERVALS, WRONG_INTERVALS, counted_blocks, intervals_up_to, scattered, subsets,
 )
@@ -20,29 +21,11 @@ def moved_demand(move, demand, end=0):
     return (move((position, position))[end], move(target))
 
 
-def served(piece, demand):
-    """Answer by itself, not with the program, whether the piece serves the demand."""
-    (a, b), (position, (low, high)) = piece, demand
-    whole = range(low, high + 1)
-    return a in whole and b in whole and position in range(a, b + 1)
-
-
-def between(demands):
-    """Make every interval between the positions and ends of the demands."""
-    ends = {end for position, (low, high) in demands for end in (position, low, high)}
-    return tuple((a, b) for a, b in product(sorted(ends), repeat=2) if a <= b)
-
-
 def smallest_of(intervals):
     """Return the interval that lies inside all others."""
     return next(
         ((a, b) for a, b in intervals if all(low <= a and b <= high for low, high in intervals)), None,
     )
-
-
-def jointly_served(first, second):
-    """Answer by itself, not with the program, whether one interval serves both demands."""
-    return any(served(piece, first) and served(piece, second) for piece in between((first, second)))
 
 
 class DocumentExamples(Timed):

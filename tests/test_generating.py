@@ -6,26 +6,13 @@ from fewspans.generating import (
     cover_chain, find_missing, first_gap, generates, prune_pieces, reduce_targets, redundant_targets,
     removable_pieces,
 )
-from samples import LAST, MOVES, intervals_up_to, scattered, subsets
+from counted import all_generated, left_out, pieces_within
+from samples import LAST, MOVES, all_moved, intervals_up_to, scattered, subsets
 from timed import Timed
-
-
-def pieces_within(pieces, target):
-    return [(a, b) for a, b in pieces if target[0] <= a and b <= target[1]]
-
-
-def left_out(pieces, target):
-    """List, position by position, the positions of the target that lie in no piece inside it."""
-    inside = pieces_within(pieces, target)
-    return [p for p in range(target[0], target[1] + 1) if not any(a <= p <= b for a, b in inside)]
 
 
 def gap_by_count(pieces, target):
     return min(left_out(pieces, target), default=None)
-
-
-def all_generated(targets, pieces):
-    return not any(left_out(pieces, target) for target in targets)
 
 
 def missing_by_count(targets, pieces):
@@ -66,10 +53,6 @@ def pruned_by_count(targets, pieces):
 
 def redundant_by_count(targets):
     return tuple(target for at, target in enumerate(targets) if all_generated((target,), others(targets, at)))
-
-
-def all_moved(move, intervals):
-    return tuple(map(move, intervals))
 
 
 # Pairs of targets and pieces: all of the shortest intervals, and few of somewhat longer ones.

@@ -19,6 +19,18 @@ FUNCTIONS = {
         "cover_chain(pieces, target)", "removable_pieces(targets, pieces)", "prune_pieces(targets, pieces)",
         "redundant_targets(targets)", "reduce_targets(targets)",
     ),
+    "solving": (
+        "count_needed(targets, pieces)", "solve(targets, pieces)", "solution_holds(targets, pieces, value)",
+        "helps(targets, pieces, interval)", "helpful_interval(targets, pieces)", "widen(targets, pieces, interval)",
+    ),
+    "transforms": (
+        "reflect_targets(targets, last)", "shift_targets(targets, by)", "remove_position(targets, position)",
+        "double_position(targets, position)", "join_targets(first, second, gap)", "window_targets(targets, interval)",
+    ),
+    "boards": (
+        "is_board(value)", "is_rectangle(board, value)", "are_separate(board, first, second)", "board_targets(board)",
+        "cover_board(board)", "cover_holds(board, value)",
+    ),
 }
 
 

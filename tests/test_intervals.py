@@ -3,13 +3,9 @@ import unittest
 from itertools import product
 
 from fewspans.intervals import contains, hull_of, intersect, is_interval, is_pieces, is_targets, targets_error
-from samples import LAST, NO_TUPLES, RIGHT_INTERVALS, WRONG_INTERVALS, intervals_up_to
+from samples import LAST, NO_TUPLES, RIGHT_INTERVALS, WRONG_INTERVALS, intervals_up_to, points
 
 ANY_VALUE_FUNCTIONS = (is_interval, is_targets, is_pieces, targets_error)
-
-
-def points(many, first=0):
-    return tuple((first + k, first + k) for k in range(many))
 
 
 class DocumentExamples(unittest.TestCase):
