@@ -1,4 +1,4 @@
-"""The functions of the document's interface that are there so far, with their arguments."""
+"""The functions and methods of the document's interface, with their arguments."""
 
 import inspect
 import unittest
@@ -31,6 +31,21 @@ FUNCTIONS = {
         "is_board(value)", "is_rectangle(board, value)", "are_separate(board, first, second)", "board_targets(board)",
         "cover_board(board)", "cover_holds(board, value)",
     ),
+    "analysis": (
+        "essential_targets(targets)", "core_targets(targets)", "is_free(targets, interval)", "growth_counts(targets)",
+    ),
+    "texts": ("interval_text(interval)", "intervals_text(intervals)", "parse_intervals(text)"),
+}
+
+METHODS = {
+    ("plans", "Plan"): (
+        "__init__(self, targets, pieces)", "add_target(self, interval)", "add_piece(self, interval)",
+        "remove_target(self, interval)", "remove_piece(self, interval)", "undo(self)",
+        "apply(self, edits, *, check=None)", "targets(self, *, version=None)", "pieces(self, *, version=None)",
+        "needed(self, *, version=None)", "solution(self, *, version=None)", "missing(self, *, version=None)",
+        "edits(self)", "changes(self)", "__len__(self)", "__str__(self)", "__eq__(self, other)",
+    ),
+    ("shells", "Shell"): ("__init__(self, plan)", "execute(self, line)"),
 }
 
 
@@ -43,6 +58,15 @@ class Interface(unittest.TestCase):
                     function = getattr(module, written.partition("(")[0])
                     self.assertEqual(function.__module__, module.__name__)
                     self.assertEqual(function.__name__ + str(inspect.signature(function)), written)
+
+    def test_methods_of_the_class_itself(self):
+        for (module_name, class_name), methods in METHODS.items():
+            owner = getattr(import_module("fewspans." + module_name), class_name)
+            self.assertEqual(owner.__module__, "fewspans." + module_name)
+            for written in methods:
+                with self.subTest(written, owner=class_name):
+                    method = vars(owner)[written.partition("(")[0]]
+                    self.assertEqual(method.__name__ + str(inspect.signature(method)), written)
 
 
 if __name__ == "__main__":
