@@ -4,7 +4,6 @@ from itertools import product
 from counted import drawn, needed_by_search
 from fewspans.analysis import core_targets, essential_targets, growth_counts, is_free
 from fewspans.blocks import find_blocks
-from fewspans.errors import SpanError, TooWide
 from fewspans.solving import count_needed
 from samples import LAST, MOVES, all_moved, intervals_up_to, points, subsets
 from timed import Timed
@@ -150,14 +149,6 @@ class IsFree(Timed):
 class Widths(Timed):
     """TooWide, at just eight and just nine blocks."""
 
-    def check_raises(self, function, *arguments):
-        with self.subTest(function.__name__, arguments=arguments):
-            with self.assertRaises(TooWide) as context:
-                function(*arguments)
-            self.assertIs(type(context.exception), TooWide)
-            self.assertIsInstance(context.exception, SpanError)
-            self.assertEqual(repr(context.exception.bound), "8")
-
     def test_eight_blocks(self):
         targets = points(8)
         self.assertEqual(essential_targets(targets), targets)
@@ -170,15 +161,15 @@ class Widths(Timed):
         for targets in (points(9), points(24), tuple((k, LAST - k) for k in range(5)), points(8) + ((20, LAST),)):
             self.assertGreaterEqual(len(find_blocks(targets)), 9)
             for function in (essential_targets, core_targets, growth_counts):
-                self.check_raises(function, targets)
+                self.check_too_wide(function, targets)
             for interval in (targets[0], targets[-1], (0, LAST), (LAST, LAST)):
-                self.check_raises(is_free, targets, interval)
+                self.check_too_wide(is_free, targets, interval)
 
     def test_the_interval_counts_for_is_free(self):
-        self.check_raises(is_free, points(8), (8, 8))
-        self.check_raises(is_free, points(8), (7, 8))
-        self.check_raises(is_free, points(8), (LAST, LAST))
-        self.check_raises(is_free, ((0, 9), (2, 7), (3, 6), (4, 5)), (1, 8))
+        self.check_too_wide(is_free, points(8), (8, 8))
+        self.check_too_wide(is_free, points(8), (7, 8))
+        self.check_too_wide(is_free, points(8), (LAST, LAST))
+        self.check_too_wide(is_free, ((0, 9), (2, 7), (3, 6), (4, 5)), (1, 8))
         self.assertIs(is_free(points(7), (7, 7)), False)
         self.assertIs(is_free(points(7), (7, LAST)), False)
 

@@ -1,6 +1,7 @@
 """Checks of the language rules that can be seen without knowing the program."""
 
 import ast
+import builtins
 import doctest
 import re
 import unittest
@@ -53,6 +54,36 @@ class Files(unittest.TestCase):
             words = re.findall(r"\w+", text)
             self.assertEqual([word for word in words if word in BARRED_WORDS], [], name)
             self.assertEqual([part for part in BARRED_PARTS if part in text], [], name)
+
+    def test_local_names(self):
+        for name, text in TEXTS.items():
+            nodes = list(ast.walk(ast.parse(text)))
+            taken = {alias.name for node in nodes if isinstance(node, ast.ImportFrom) for alias in node.names}
+            taken |= {node.name for node in nodes if isinstance(node, ast.ClassDef)} | set(dir(builtins))
+            given = {node.arg for node in nodes if isinstance(node, ast.arg)}
+            given |= {node.id for node in nodes if isinstance(node, ast.Name) and isinstance(node.ctx, ast.Store)}
+            self.assertEqual(given & taken, set(), name)
+            self.assertEqual([local for local in given if local.startswith("_")], [], name)
+
+    def test_methods_and_attributes(self):
+        nodes = [node for text in TEXTS.values() for node in ast.walk(ast.parse(text))]
+        parts = [part for node in nodes if isinstance(node, ast.ClassDef) for part in node.body]
+        methods = {part.name for part in parts if isinstance(part, ast.FunctionDef)}
+        stored = {node.attr for node in nodes if isinstance(node, ast.Attribute) and isinstance(node.ctx, ast.Store)}
+        self.assertEqual(methods & stored, set())
+
+    def test_lists_instead_of_generators(self):
+        for name, text in TEXTS.items():
+            for node in ast.walk(ast.parse(text)):
+                self.assertNotIsInstance(node, ast.GeneratorExp, name)
+
+    def test_identity(self):
+        for name, text in TEXTS.items():
+            for node in ast.walk(ast.parse(text)):
+                if isinstance(node, ast.Compare):
+                    for sign, right in zip(node.ops, node.comparators):
+                        if isinstance(sign, (ast.Is, ast.IsNot)):
+                            self.assertIn(ast.unparse(right), ("None", "True", "False"), name)
 
     def test_no_warning(self):
         for name, text in TEXTS.items():

@@ -1,8 +1,10 @@
-"""What several test classes share: a time limit, and the check of equal calls."""
+"""What several test classes share: a time limit, and the checks of equal calls and of TooWide."""
 
 import copy
 import signal
 import unittest
+
+from fewspans.errors import SpanError, TooWide
 
 
 def too_slow(number, frame):
@@ -26,3 +28,11 @@ class Timed(unittest.TestCase):
                 self.assertEqual(repr(function(*copy.deepcopy(arguments))), repr(first))
                 self.assertEqual(repr(function(*arguments)), repr(first))
                 self.assertEqual(repr(arguments), before)
+
+    def check_too_wide(self, function, *arguments):
+        with self.subTest(function.__name__, arguments=arguments):
+            with self.assertRaises(TooWide) as context:
+                function(*arguments)
+            self.assertIs(type(context.exception), TooWide)
+            self.assertIsInstance(context.exception, SpanError)
+            self.assertEqual(repr(context.exception.bound), "8")
